@@ -1,0 +1,33 @@
+// Package wicket: small programs that decide on frames: see DOC.md.
+package wicket
+
+import (
+	"wicket/api"
+	"wicket/look"
+)
+
+// Filter is code that was let in.
+type Filter struct{}
+
+// Load looks at code, and lets it in (P3 to P5).
+func Load(code []byte) (filter *Filter, errno api.Errno, at int) {
+	defer func() {
+		switch thrown := recover().(type) {
+		case nil:
+		case look.Wrong:
+			filter, errno, at = nil, thrown.Errno, thrown.At
+		default:
+			// Nothing else is meant to be thrown; should it be, the code
+			// was not shown to be harmless, and no call may panic.
+			filter, errno, at = nil, api.ErrUnsafe, 0
+		}
+	}()
+	look.Shape(code)
+	return &Filter{}, api.OK, 0
+}
+
+// Code tells the code (P6).
+func (f *Filter) Code() []byte { return nil }
+
+// Run carries the code out on a frame (P7).
+func (f *Filter) Run(frame []byte) (int, []byte, api.Errno) { return 0, nil, api.OK }
