@@ -1,6 +1,11 @@
 // Package ops: instructions, and the table of the operations.
 package ops
 
+import (
+	"wicket/api"
+	"wicket/known"
+)
+
 // Size is how many bytes an instruction has.
 const Size = 8
 
@@ -9,6 +14,15 @@ type Instruction struct {
 	Op, Dst, Src uint8
 	Off          int16
 	Num          int32
+}
+
+// second is where the second value that is worked with is found: in the
+// register src, or where NUM is.
+func (in Instruction) second() uint8 {
+	if in.Op >= api.Imm {
+		return known.Num
+	}
+	return in.Src
 }
 
 // Decode takes code apart; bytes at the end that make no whole instruction are left out.

@@ -27,9 +27,12 @@ func TestDecode(t *testing.T) {
 
 func TestTableHasOperationsAlone(t *testing.T) {
 	count := 0
-	for _, operation := range Table() {
+	for op, operation := range Table() {
 		if operation.Fits != nil {
 			count++
+		}
+		if (operation.Fits == nil) != (operation.Look == nil) {
+			t.Errorf("the operation %d has not all of its functions", op)
 		}
 	}
 	if count != 45 {
