@@ -2,22 +2,11 @@ package known
 
 import (
 	"wicket/api"
+	"wicket/registers"
 	"wicket/wrong"
 )
 
-const (
-	verdictRegister  = 0
-	firstRegister    = 1
-	endRegister      = 2
-	lastLostRegister = 3
-	stackRegister    = 7
-
-	lastVerdict = 3
-)
-
-// Num is where NUM is found: it lies behind the registers, so that what works
-// on two registers works on one and NUM as well.
-const Num = api.Registers
+const lastVerdict = 3
 
 // State is all that is known ahead of an instruction. The zero State is that
 // of an instruction that no way leads to.
@@ -32,9 +21,9 @@ type State struct {
 // Start is what is known ahead of the instruction 0.
 func Start() State {
 	s := State{Reached: true}
-	s.values[firstRegister] = firstPlace()
-	s.values[endRegister] = endPlace()
-	s.values[stackRegister] = stackEnd()
+	s.values[registers.First] = firstPlace()
+	s.values[registers.End] = endPlace()
+	s.values[registers.Stack] = stackEnd()
 	return s
 }
 
@@ -42,7 +31,7 @@ func Start() State {
 // taken for its 64 bits with a sign.
 func (s State) Ahead(at int, num int32) State {
 	s.at = at
-	return s.SetNumber(Num, only(uint64(int64(num))))
+	return s.SetNumber(registers.Num, only(uint64(int64(num))))
 }
 
 // Or is what holds of both, where a way comes to others, or is the first.
@@ -93,29 +82,29 @@ func (s State) SetNumber(register uint8, span Numbers) State {
 
 // SetFirst is s behind a Call with First.
 func (s State) SetFirst() State {
-	return s.Set(verdictRegister, firstPlace())
+	return s.Set(registers.Verdict, firstPlace())
 }
 
 // SetLast is s behind a Call with Last.
 func (s State) SetLast() State {
-	return s.Set(verdictRegister, endPlace())
+	return s.Set(registers.Verdict, endPlace())
 }
 
 // Shrink is s behind a Call with Shrink: of the frame nothing is known then.
 func (s State) Shrink() State {
-	s.ReadNumber(firstRegister)
+	s.ReadNumber(registers.First)
 	for i, v := range s.values {
-		if v.kind == framePlace || i >= firstRegister && i <= lastLostRegister {
+		if v.kind == framePlace || i >= registers.First && i <= registers.LastLost {
 			s.values[i] = Value{}
 		}
 	}
 	s.frame = 0
-	return s.SetNumber(verdictRegister, Numbers{Least: 0, Most: 1})
+	return s.SetNumber(registers.Verdict, Numbers{Least: 0, Most: 1})
 }
 
 // Verdict gives up if register 0 is not shown to hold a verdict.
 func (s State) Verdict() {
-	if s.ReadNumber(verdictRegister).Most > lastVerdict {
+	if s.ReadNumber(registers.Verdict).Most > lastVerdict {
 		panic(s.harm())
 	}
 }

@@ -4,6 +4,7 @@ import (
 	"testing"
 
 	"wicket/api"
+	"wicket/registers"
 	"wicket/wrong"
 )
 
@@ -39,10 +40,10 @@ func TestAhead(t *testing.T) {
 	wantHarm(t, 17, func() { s.Read(0) }, "nothing read")
 	wantHarm(t, 17, func() { s.ReadNumber(1) }, "a place read as a number")
 	wantHarm(t, 17, func() { s.Verdict() }, "nothing for a verdict")
-	if got := s.ReadNumber(Num); got != only(^uint64(1)) {
+	if got := s.ReadNumber(registers.Num); got != only(^uint64(1)) {
 		t.Errorf("NUM -2 is %v", got)
 	}
-	if got := s.Set(Num, Value{}).Ahead(3, 5).ReadNumber(Num); got != only(uint64(5)) {
+	if got := s.Set(registers.Num, Value{}).Ahead(3, 5).ReadNumber(registers.Num); got != only(uint64(5)) {
 		t.Errorf("NUM 5 is %v", got)
 	}
 }

@@ -3,7 +3,7 @@ package ops
 
 import (
 	"wicket/api"
-	"wicket/known"
+	"wicket/registers"
 )
 
 // Size is how many bytes an instruction has.
@@ -20,7 +20,7 @@ type Instruction struct {
 // register src, or where NUM is.
 func (in Instruction) second() uint8 {
 	if in.Op >= api.Imm {
-		return known.Num
+		return registers.Num
 	}
 	return in.Src
 }

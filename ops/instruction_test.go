@@ -31,7 +31,7 @@ func TestTableHasOperationsAlone(t *testing.T) {
 		if operation.Fits != nil {
 			count++
 		}
-		if (operation.Fits == nil) != (operation.Look == nil) {
+		if (operation.Fits == nil) != (operation.Look == nil) || (operation.Fits == nil) != (operation.Do == nil) {
 			t.Errorf("the operation %d has not all of its functions", op)
 		}
 	}

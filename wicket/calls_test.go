@@ -33,8 +33,15 @@ func checkLoad(t *testing.T, c []byte) *wicket.Filter {
 func checkRun(t *testing.T, f *wicket.Filter, frame []byte) {
 	t.Helper()
 	verdict, left, e := f.Run(frame)
-	if e != api.OK && (verdict != 0 || len(left) != 0) {
-		t.Errorf("P1: Run on %d bytes: error %d beside %d, %v", len(frame), e, verdict, left)
+	right := false
+	switch e {
+	case api.OK:
+		right = len(frame) <= api.MaxFrame && verdict >= 0 && verdict <= 3 && len(left) <= len(frame)
+	case api.ErrFrame:
+		right = len(frame) > api.MaxFrame && verdict == 0 && len(left) == 0
+	}
+	if !right {
+		t.Errorf("P1: Run on %d bytes: verdict %d, left %v, error %d", len(frame), verdict, left, e)
 	}
 }
 
@@ -97,7 +104,7 @@ func TestP1Edges(t *testing.T) {
 	for n := 2; n <= api.MaxCode; n++ {
 		callAll(t, plain(n))
 	}
-	for _, c := range plainExamples() {
+	for _, c := range loadable() {
 		callAll(t, c)
 	}
 }
@@ -134,7 +141,7 @@ func someCodes() [][]byte {
 		exit(),
 		plain(2),
 		plain(api.MaxCode),
-	}, plainExamples())
+	}, plainExamples(), writers())
 }
 
 func TestP2CodeNotWritten(t *testing.T) {
@@ -164,6 +171,44 @@ func TestP2FrameNotWritten(t *testing.T) {
 				t.Errorf("P2: Run wrote into a frame of %d bytes, or gave it back", len(frame))
 			}
 		}
+	}
+}
+
+// TestP2FrameNotKept: what the caller writes into a frame later is not seen
+// in what came out.
+func TestP2FrameNotKept(t *testing.T) {
+	for _, c := range loadable() {
+		f, _, _ := wicket.Load(c)
+		for _, frame := range frames() {
+			whole, part := roomy(frame)
+			verdict, left, e := f.Run(part)
+			before := answer{verdict, bytes.Clone(left), e}
+			fill(whole)
+			if again, list, e := f.Run(frame); !same(before, answer{verdict, left, e}) || !same(before, answer{again, list, e}) {
+				t.Errorf("P2: what came of a frame of %d bytes changed with it", len(frame))
+			}
+		}
+	}
+}
+
+// TestP2AnyOrder: a filter answers the same, however often and in whatever
+// order it is run, and among others.
+func TestP2AnyOrder(t *testing.T) {
+	r := rand.New(rand.NewSource(41))
+	list, given := codesLetIn(), frames()
+	var filters []*wicket.Filter
+	var want [][]answer
+	for _, c := range list {
+		f, _, _ := wicket.Load(c)
+		filters, want = append(filters, f), append(want, answersOf(f))
+	}
+	for range 20000 {
+		i, k := r.Intn(len(list)), r.Intn(len(given))
+		verdict, left, e := filters[i].Run(given[k])
+		if !same(answer{verdict, left, e}, want[i][k+1]) {
+			t.Fatalf("P2: Run of %v on the frame %d: verdict %d, left %v, error %d, and at first %v", list[i], k, verdict, left, e, want[i][k+1])
+		}
+		fill(left)
 	}
 }
 
@@ -233,7 +278,21 @@ func TestP2CodeAndFrameAlone(t *testing.T) {
 }
 
 func loadable() [][]byte {
-	return slices.Concat([][]byte{plain(2), plain(9), plain(api.MaxCode)}, plainExamples())
+	return slices.Concat([][]byte{plain(2), plain(9), plain(api.MaxCode)}, plainExamples(), writers())
+}
+
+// writers is code that writes into frame and stack, and takes bytes away.
+func writers() [][]byte {
+	writes := code(mov(4, 77), ins(api.Store1, 1, 4, 0, 0), ins(api.Store1, 7, 4, -1, 0))
+	return [][]byte{
+		code(tested(1, writes), out(1)),
+		code(tested(8, code(mov(4, 77), ins(api.Store8, 1, 4, 0, 0))), out(2)),
+		code(tested(api.MaxFrame, code(mov(4, -1), ins(api.Store8, 1, 4, api.MaxFrame-8, 0))), out(2)),
+		code(tested(1, code(writes, shrink(1))), out(3)),
+		code(shrink(2), again(), tested(1, writes), out(0)),
+		code(load(4, 7, -1), add(4, 5), ins(api.Store1, 7, 4, -1, 0), tested(1, code(load(4, 7, -1), ins(api.Store1, 1, 4, 0, 0))), out(1)),
+		code(shrink(api.MaxFrame), out(0)),
+	}
 }
 
 // fill writes over a list and its spare room.

@@ -64,7 +64,8 @@ func wantHarm(t *testing.T, c []byte, what string) {
 	wantUnsafe(t, c, what)
 }
 
-// holdTo asks of any code what P5 says of it, and tells what it was.
+// holdTo asks of any code what P5 says of it, and P7 if it is let in, and
+// tells what it was.
 func holdTo(t *testing.T, c []byte, frames [][]byte, what string) (plain, faults bool) {
 	t.Helper()
 	plain, faults = isPlain(c), faultsOn(c, frames)
@@ -77,6 +78,9 @@ func holdTo(t *testing.T, c []byte, frames [][]byte, what string) (plain, faults
 		wantUnsafe(t, c, what)
 	default:
 		wantShape(t, c, what)
+	}
+	if f, _, _ := wicket.Load(c); f != nil {
+		wantMachine(t, f, frames, what)
 	}
 	return plain, faults
 }

@@ -5,7 +5,9 @@ import (
 	"bytes"
 
 	"wicket/api"
+	"wicket/carry"
 	"wicket/look"
+	"wicket/ops"
 	"wicket/wrong"
 )
 
@@ -35,4 +37,10 @@ func Load(code []byte) (filter *Filter, errno api.Errno, at int) {
 func (f *Filter) Code() []byte { return bytes.Clone(f.code) }
 
 // Run carries the code out on a frame (P7).
-func (f *Filter) Run(frame []byte) (int, []byte, api.Errno) { return 0, nil, api.OK }
+func (f *Filter) Run(frame []byte) (int, []byte, api.Errno) {
+	if len(frame) > api.MaxFrame {
+		return 0, nil, api.ErrFrame
+	}
+	verdict, left := carry.Out(ops.Decode(f.code), frame)
+	return verdict, left, api.OK
+}
